@@ -11,6 +11,7 @@ import (
 	"tappet/names"
 	"tappet/printer"
 	"tappet/schema"
+	"tappet/tree"
 )
 
 // P6.4: the sheet of every kind of thing, told by hand.
@@ -429,6 +430,27 @@ func TestThereAndBack(t *testing.T) {
 		again := resolves(t, back)
 		if !same(again, c) || !same(writes(t, again), back) {
 			t.Fatal("not back:", short(s))
+		}
+	}
+}
+
+// W2: a configuration, printed as a text and read again, is itself.
+func TestThereAndBackThroughTexts(t *testing.T) {
+	m := maker{23}
+	all := []api.Config{everyConfig()}
+	for range 300 {
+		all = append(all, m.config())
+	}
+	for _, c := range all {
+		x, e := schema.Write(writes(t, c))
+		text, flaw := printer.Print(x)
+		y, f := tree.Parse(text)
+		s, g := schema.Read(y)
+		if e != api.OK || flaw.Code != api.OK || f.Code != api.OK || g.Code != api.OK {
+			t.Fatal(e, flaw, f, g, short(c))
+		}
+		if got := resolves(t, s); !same(got, c) {
+			t.Fatalf("%s, not %s", short(got), short(c))
 		}
 	}
 }

@@ -20,11 +20,12 @@ type leaving struct {
 	again bool // it chained itself: it has no activation less when it has left
 }
 
-// book is what is kept of a run, step by step, and what was found in it so far (P26.1).
+// book is what is kept of a run, step by step (P26.1).
 type book struct {
 	config   api.Config
 	ceils    api.Ceils
 	services map[int]service
+	found    func(api.Finding) // it is told what is found
 
 	entry  int // the number of the one that is looked at
 	caller api.Owner
@@ -38,16 +39,16 @@ type book struct {
 	queues   []int // how many values each message has
 	open     []int // the places of the windows that are open
 
-	windows  []api.Window
-	findings []api.Finding
+	windows []api.Window // all that were opened
 }
 
-func newBook(c api.Config) *book {
+func newBook(c api.Config, found func(api.Finding)) *book {
 	ceils, _ := ceil.Reckon(c) // layer 8 refuses nothing that layer 7 takes
 	return &book{
 		config:   c,
 		ceils:    ceils,
 		services: services(),
+		found:    found,
 		caller:   nobody,
 		tasks:    make([]task, len(c.Tasks)),
 		held:     map[api.Owner][]int{},

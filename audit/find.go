@@ -7,7 +7,7 @@ import (
 )
 
 func (b *book) find(kind api.FindingKind, id int) {
-	b.findings = append(b.findings, api.Finding{Kind: kind, Entry: b.entry, ID: id})
+	b.found(api.Finding{Kind: kind, Entry: b.entry, ID: id})
 }
 
 // examine finds what is wrong with a step that was not idle (P26.2, 1 to 3).

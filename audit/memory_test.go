@@ -2,6 +2,7 @@ package audit_test
 
 import (
 	"reflect"
+	"runtime"
 	"slices"
 	"sync"
 	"testing"
@@ -195,4 +196,24 @@ func TestNothingIsKept(t *testing.T) {
 		})
 	}
 	w.Wait()
+}
+
+// R1: windows are told in some room for each, also where far more would be found than there are windows.
+func TestRoomOfWindows(t *testing.T) {
+	c, n := small(), 8192
+	var r api.Trace
+	for i := range n {
+		r.Entries = append(r.Entries, ok(activate(3), task(i%2)))
+	}
+	var ahead, behind runtime.MemStats
+	runtime.ReadMemStats(&ahead)
+	l, e := audit.Windows(c, r)
+	runtime.ReadMemStats(&behind)
+	if room := int(behind.TotalAlloc - ahead.TotalAlloc); e != api.OK || len(l) != n || room > 1000*n {
+		t.Errorf("%d, %d windows, %d bytes", e, len(l), room)
+	}
+	// The first one: no caller at its own entry, and then the tasks 0 and 1 in turn.
+	if want := (api.Window{Task: 3, To: -1, Lower: 0, Blocked: n - 1}); l[0] != want {
+		t.Errorf("%+v, not %+v", l[0], want)
+	}
 }

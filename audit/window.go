@@ -51,6 +51,6 @@ func (b *book) block(w *api.Window) {
 		w.Lower = b.caller.ID
 	case b.caller.ID:
 	default:
-		b.findings = append(b.findings, api.Finding{Kind: api.FindBlocked, Entry: b.entry, ID: w.Task, Other: b.caller.ID})
+		b.found(api.Finding{Kind: api.FindBlocked, Entry: b.entry, ID: w.Task, Other: b.caller.ID})
 	}
 }
